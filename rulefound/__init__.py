@@ -1,0 +1,1 @@
+"""Rows of numbers and the shortest rules by which they go on."""
