@@ -13,7 +13,7 @@ from rulefound.basics import check_prime, check_row, inverse, told_at
 # and nothing is spoilt elsewhere. While only noughts are taken all weights are nought,
 # and the mended rule is so long that it has nothing to tell.
 def mended(p, rule, weights, miss):
-    longer = rule + [0] * (len(weights) + 1 - 2 * len(rule))
+    longer = rule + [0] * max(0, len(weights) + 1 - 2 * len(rule))
     backward = list(reversed(weights)) + [0]
     return [(number + miss * weight) % p for number, weight in zip(longer, backward)]
 
