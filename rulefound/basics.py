@@ -1,6 +1,6 @@
 """What all parts stand on: the checks of what is handed in, and reckoning by a prime."""
 
-from rulefound.errors import NoPrime, NoRow, NoRule
+from rulefound.errors import NoPrime, NoRow, NoRule, NoTurn
 
 PRIMES = (2, 3, 5, 7, 11, 13, 17, 19, 23, 29, 31, 37, 41, 43, 47, 53, 59, 61, 67, 71, 73, 79, 83, 89, 97)
 MOST = 30
@@ -23,6 +23,11 @@ def check_row(p, row):
 def check_rule(p, rule):
     if not fits(p, rule):
         raise NoRule(f"a rule has at most {MOST} numbers, each from nought to below {p}")
+
+
+def check_turn(rule):
+    if rule != [] and rule[-1] == 0:
+        raise NoTurn("a rule whose last number is nought can't be turned")
 
 
 # The place may lie just behind the row: only the numbers ahead of it are read.

@@ -87,3 +87,49 @@ def rows_of_every_kind():
             yield p, [0] * length
             yield p, [0] * (length - 1) + [1] if length else []
             yield p, [p - 1] + [0] * (length - 1) if length else []
+
+
+def joined_plainly(p, one, other):
+    """Point 10, word by word: what there isn't is nought."""
+    def at(rule, place):
+        return rule[place] if 0 <= place < len(rule) else 0
+
+    together = []
+    for i in range(1, len(one) + len(other) + 1):
+        less = sum(at(one, j - 1) * at(other, i - j - 1) for j in range(1, i))
+        together.append((at(one, i - 1) + at(other, i - 1) - less) % p)
+    return together
+
+
+def some_rule_to_turn(chance, p, length):
+    return some_list(chance, p, length - 1) + [chance.randrange(1, p)] if length else []
+
+
+def moved_on(p, rule, begin, places):
+    """The beginning that stands so many places on."""
+    return gone_on_plainly(p, begin, rule, places)[places:]
+
+
+def far_by_squares(p, rule, begin, place):
+    """The number at the place by the powers of a square of numbers that moves a beginning on by one."""
+    size = len(rule)
+    step = [[int(column == line + 1) for column in range(size)] for line in range(size - 1)] + [rule[::-1]]
+    numbers = list(begin)
+    while place:
+        if place % 2:
+            numbers = [sum(a * b for a, b in zip(line, numbers)) % p for line in step]
+        step = [[sum(a * b for a, b in zip(line, column)) % p for column in zip(*step)] for line in step]
+        place //= 2
+    return numbers[0] if numbers else 0
+
+
+def round_plainly(p, rule, begin):
+    """The least number of places from which on a row, gone along for twice the most there can be, is as it was."""
+    most = p ** len(rule)
+    row = gone_on_plainly(p, begin, rule, 2 * most)
+    return next(places for places in range(1, most + 1) if row[places:] == row[:len(row) - places])
+
+
+def longest_with_round(p):
+    """The length of the longest rules that have at most 2,000 beginnings."""
+    return max(length for length in range(12) if p ** length <= 2000)

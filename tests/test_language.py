@@ -4,6 +4,7 @@ This sees the rules that are easily seen; it does not stand in for reading them.
 """
 
 import ast
+import builtins
 import pathlib
 import re
 import unittest
@@ -33,6 +34,11 @@ WORDS = re.compile(
     r"|namedtuple|NamedTuple|TypedDict|TYPE_CHECKING|abstractmethod)\b|dataclass|overload|contextmanager"
 )
 
+# Of L23: what is walked on the spot, and the calls in which it may stand first for that.
+WALKED = {"zip", "enumerate", "reversed", "range"}
+WALKERS = set("list tuple dict sorted sum any all enumerate zip min max".split())
+WALKED_METHODS = {"items", "keys", "values"}
+
 
 def bound_names(tree):
     """Names that the file itself gives a meaning."""
@@ -54,6 +60,23 @@ def own_attributes(trees):
                 yield from (part.name for part in node.body if isinstance(part, ast.FunctionDef))
             elif isinstance(node, ast.Attribute) and isinstance(node.ctx, ast.Store):
                 yield node.attr
+
+
+def is_walked(node):
+    if not isinstance(node, ast.Call):
+        return False
+    if isinstance(node.func, ast.Attribute):
+        return node.func.attr in WALKED_METHODS
+    return isinstance(node.func, ast.Name) and node.func.id in WALKED
+
+
+def walked_on_the_spot(tree):
+    for node in ast.walk(tree):
+        if isinstance(node, (ast.For, ast.comprehension)):
+            yield node.iter
+        elif isinstance(node, ast.Call) and node.args:
+            if isinstance(node.func, ast.Name) and node.func.id in WALKERS:
+                yield node.args[0]
 
 
 class Language(unittest.TestCase):
@@ -105,3 +128,41 @@ class Language(unittest.TestCase):
                     self.assertIn(node.id, bound | BUILTINS, (name, node.lineno))
                 elif isinstance(node, ast.Attribute):
                     self.assertIn(node.attr, attributes, (name, node.lineno))
+
+    def test_walks_are_walked_on_the_spot(self):
+        for name, tree in self.trees.items():
+            allowed = list(walked_on_the_spot(tree))
+            for node in ast.walk(tree):
+                if is_walked(node):
+                    self.assertTrue(any(node is one for one in allowed), (name, node.lineno))
+
+    def test_powers_have_written_exponents(self):
+        for name, tree in self.trees.items():
+            for node in ast.walk(tree):
+                if isinstance(node, (ast.BinOp, ast.AugAssign)) and isinstance(node.op, ast.Pow):
+                    exponent = node.right if isinstance(node, ast.BinOp) else node.value
+                    self.assertIsInstance(exponent, ast.Constant, (name, node.lineno))
+                    self.assertIn(exponent.value, range(65), (name, node.lineno))
+
+    def test_texts_are_without_signs_that_are_kept_out(self):
+        for name, tree in self.trees.items():
+            for node in ast.walk(tree):
+                if isinstance(node, ast.Constant) and isinstance(node.value, str):
+                    self.assertNotIn("%", node.value, (name, node.lineno))
+
+    def test_no_two_files_draw_from_one_another(self):
+        drawn = {}
+        for name, tree in self.trees.items():
+            froms = [node.module for node in ast.walk(tree) if isinstance(node, ast.ImportFrom)]
+            drawn[name] = {module.partition(".")[2] + ".py" for module in froms}
+        while drawn:
+            free = [name for name in drawn if not drawn[name] & set(drawn)]
+            self.assertNotEqual(free, [], drawn)
+            for name in free:
+                del drawn[name]
+
+    def test_no_name_is_like_one_of_python_s_own(self):
+        for name, tree in self.trees.items():
+            self.assertEqual(set(bound_names(tree)) & set(dir(builtins)), set(), name)
+            for bound in bound_names(tree):
+                self.assertRegex(bound, r"^([A-Za-z][A-Za-z0-9_]*|__init__)$", name)

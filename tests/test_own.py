@@ -4,7 +4,10 @@ import copy
 import unittest
 
 from rulefound.errors import RuleError
+from rulefound.far import far, round_of
+from rulefound.notes import read, shown
 from rulefound.rows import goes, gone_on
+from rulefound.rules import joined, turned
 from rulefound.shortest import lengths, paper, shortest
 
 CALLS = (
@@ -22,6 +25,23 @@ CALLS = (
     (paper, (7, [0, 1, 1, 2, 3])),
     (paper, (7, [1])),
     (paper, (7, [0, 0])),
+    (joined, (7, [1, 1], [2, 3, 4])),
+    (joined, (7, [1, 1], [])),
+    (joined, (7, [], [1, 1])),
+    (joined, (7, [], [])),
+    (turned, (7, [1, 2, 3])),
+    (turned, (7, [1])),
+    (turned, (7, [])),
+    (far, (7, [1, 1], [0, 1], 0)),
+    (far, (7, [1, 1], [0, 1], 10 ** 29)),
+    (far, (7, [], [], 5)),
+    (round_of, (7, [1, 1], [0, 1])),
+    (round_of, (7, [1], [3])),
+    (round_of, (7, [], [])),
+    (shown, (7, [1, 0, 6])),
+    (shown, (2, [])),
+    (read, ("7: 1 0 6",)),
+    (read, ("2:",)),
 )
 REFUSED = (
     (goes, (8, [9, 1], [1, 9])),
@@ -32,11 +52,25 @@ REFUSED = (
     (shortest, (7, [1, 7])),
     (lengths, (7, [1] * 31)),
     (paper, (7, [-1])),
+    (joined, (7, [1] * 15, [1] * 16)),
+    (joined, (7, [1], [7])),
+    (turned, (7, [1, 0])),
+    (far, (7, [1, 1], [0], 1)),
+    (far, (7, [1] * 9, [1] * 9, 1)),
+    (far, (7, [1, 1], [0, 1], -1)),
+    (round_of, (7, [1, 0], [0, 1])),
+    (round_of, (7, [1] * 9, [1] * 9)),
+    (shown, (7, [7])),
+    (read, ("7: 7",)),
 )
 
 
 def lists_in(handed):
     return [one for one in handed if isinstance(one, list)]
+
+
+def lists_told(answer):
+    return lists_in(answer if isinstance(answer, tuple) else [answer])
 
 
 class Own(unittest.TestCase):
@@ -71,13 +105,13 @@ class Own(unittest.TestCase):
                 mine = copy.deepcopy(handed)
                 first = told(*mine)
                 as_told = copy.deepcopy(first)
-                if isinstance(first, list):
-                    first[:] = [5] * (len(first) + 1)
+                for one in lists_told(first):
+                    one[:] = [5] * (len(one) + 1)
                 second = told(*mine)
                 self.assertEqual(mine, handed)
                 self.assertEqual(second, as_told)
-                if isinstance(first, list):
-                    self.assertFalse(any(second is one for one in lists_in(mine) + [first]))
+                for one in lists_told(second):
+                    self.assertFalse(any(one is another for another in lists_in(mine) + lists_told(first)))
 
     def test_one_list_may_be_handed_in_twice(self):
         for numbers in ([], [1], [3, 4]):
@@ -85,3 +119,6 @@ class Own(unittest.TestCase):
             longer = gone_on(7, numbers, numbers, 3)
             self.assertEqual(longer, gone_on(7, list(numbers), list(numbers), 3))
             self.assertEqual(longer[:len(numbers)], numbers)
+            self.assertEqual(joined(7, numbers, numbers), joined(7, list(numbers), list(numbers)))
+            self.assertEqual(far(7, numbers, numbers, 20), far(7, list(numbers), list(numbers), 20))
+            self.assertEqual(round_of(7, numbers, numbers), round_of(7, list(numbers), list(numbers)))
